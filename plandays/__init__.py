@@ -1,0 +1,1 @@
+"""Plandays: plans of tasks on any number of days."""

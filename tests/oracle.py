@@ -1,0 +1,70 @@
+"""Plans and patterns by trial: what the tests compare the package with."""
+
+from itertools import permutations, product
+
+
+def is_kept(rule, tasks, n, days):
+    first = days[tasks.index(rule[1])]
+    second = days[tasks.index(rule[-1])]
+    return {
+        "before": first < second,
+        "upto": first <= second,
+        "same": first == second,
+        "apart": first != second,
+        "far": first + 2 <= second,
+        "next": first + 1 == second,
+        "first": first == 1,
+        "last": first == n,
+    }[rule[0]]
+
+
+def plans(tasks, rules, n):
+    return [
+        list(days)
+        for days in product(range(1, n + 1), repeat=len(tasks))
+        if all(is_kept(rule, tasks, n, days) for rule in rules)
+    ]
+
+
+def pattern(n, days):
+    """The pattern of a list of days, found by walking from day to day."""
+    groups, steps, empty = [], [], 0
+    start = end = 0
+    for day in range(1, n + 1):
+        group = [task for task in range(len(days)) if days[task] == day]
+        if not group:
+            empty += 1
+            continue
+        if groups:
+            steps.append(2 if empty else 1)
+        else:
+            start = 1 if empty else 0
+        groups.append(group)
+        empty = 0
+    if empty:
+        end = 1
+    return (start, groups, steps, end)
+
+
+def good_patterns(tasks, rules):
+    """Every pattern is met among the lists of days for up to twice as many days as tasks, and one more."""
+    found = []
+    for n in range(1, 2 * len(tasks) + 2):
+        for days in plans(tasks, rules, n):
+            found.append(pattern(n, days))
+    return sorted({repr(one): one for one in found}.values())
+
+
+def all_rules(tasks):
+    kinds = ("before", "upto", "same", "apart", "far", "next")
+    pairs = [(kind, a, b) for kind in kinds for a, b in permutations(tasks, 2)]
+    return pairs + [(kind, a) for kind in ("first", "last") for a in tasks]
+
+
+def lists_in(value):
+    """All lists in a value of lists and tuples, at any depth, the value itself included."""
+    found = [value] if isinstance(value, list) else []
+    if isinstance(value, (list, tuple)):
+        for part in value:
+            found.extend(lists_in(part))
+    return found

@@ -1,0 +1,93 @@
+"""The interface: each name in its file, with its arguments; and what the general rules [1] and [2] bar."""
+
+import ast
+import importlib
+import inspect
+import unittest
+from pathlib import Path
+
+PACKAGE = Path(__file__).resolve().parent.parent / "plandays"
+
+# For each file: the classes with the arguments of their calls and methods, and the functions.
+CLASSES = {
+    "errors": {
+        name: {"__init__": ["value"]}
+        for name in (
+            "PlanError", "NoTask", "InvalidName", "DoubleName", "InvalidRule", "UnknownTask", "SameTask",
+            "UnlikeTasks", "InvalidNumber", "InvalidPlan", "NoPlan", "Quarrel", "NothingToUndo", "Unreadable",
+        )
+    },
+    "books": {
+        "Book": {
+            "__init__": ["tasks", "rules"], "keeps": ["n", "plan"], "with_rules": ["rules"], "without": ["index"],
+            "beside": ["other"], "then": ["other"], "turned": [], "exchanged": [], "__contains__": None,
+            "__and__": None, "__len__": None, "__eq__": None,
+        },
+    },
+}
+PROPERTIES = {"Book": ["tasks", "rules"]}
+FUNCTIONS = {
+    "patterns": {
+        "patterns": ["book"], "pattern_of": ["book", "n", "plan"], "plans_with": ["pattern", "n"],
+        "judge_patterns": ["book", "told"],
+    },
+}
+LIBRARY = {"heapq", "math", "itertools", "collections"}
+
+
+def arguments(function):
+    return [name for name in inspect.signature(function).parameters if name != "self"]
+
+
+def module(name):
+    return importlib.import_module("plandays." + name)
+
+
+class Interface(unittest.TestCase):
+    def test_classes_stand_in_their_files(self):
+        for name, classes in CLASSES.items():
+            for title in classes:
+                self.assertEqual(getattr(module(name), title).__module__, "plandays." + name)
+
+    def test_methods_and_their_arguments(self):
+        for name, classes in CLASSES.items():
+            for title, methods in classes.items():
+                one = getattr(module(name), title)
+                for method, wanted in methods.items():
+                    if method != "__init__":
+                        self.assertIn(method, vars(one), title)
+                    if wanted is not None:
+                        self.assertEqual(arguments(getattr(one, method)), wanted, (title, method))
+
+    def test_properties(self):
+        for title, names in PROPERTIES.items():
+            for name in names:
+                self.assertIsInstance(vars(getattr(module("books"), title))[name], property)
+
+    def test_functions_and_their_arguments(self):
+        for name, functions in FUNCTIONS.items():
+            for title, wanted in functions.items():
+                one = getattr(module(name), title)
+                self.assertTrue(inspect.isfunction(one))
+                self.assertEqual(one.__module__, "plandays." + name)
+                self.assertEqual(arguments(one), wanted, title)
+
+
+class NoClockNoRandomNumbersNoFiles(unittest.TestCase):
+    def test_imports_come_from_the_package_and_four_plain_modules(self):
+        for path in sorted(PACKAGE.rglob("*.py")):
+            for node in ast.walk(ast.parse(path.read_text())):
+                self.assertNotIsInstance(node, ast.Import, path)
+                if isinstance(node, ast.ImportFrom):
+                    self.assertTrue(node.module.startswith("plandays.") or node.module in LIBRARY, (path, node.module))
+
+    def test_nothing_is_called_that_reads_or_writes(self):
+        barred = {"open", "input", "print", "eval", "exec", "compile", "__import__", "globals", "vars", "id", "hash"}
+        for path in sorted(PACKAGE.rglob("*.py")):
+            for node in ast.walk(ast.parse(path.read_text())):
+                if isinstance(node, ast.Name):
+                    self.assertNotIn(node.id, barred, path)
+
+
+if __name__ == "__main__":
+    unittest.main()
