@@ -1,5 +1,6 @@
 """Plans and patterns by trial: what the tests compare the package with."""
 
+from fractions import Fraction
 from itertools import permutations, product
 
 
@@ -68,3 +69,25 @@ def lists_in(value):
         for part in value:
             found.extend(lists_in(part))
     return found
+
+
+def number(tasks, rules, n):
+    return len(plans(tasks, rules, n))
+
+
+def binomial(n, j):
+    top = bottom = 1
+    for k in range(j):
+        top *= n - k
+        bottom *= k + 1
+    value = Fraction(top, bottom)
+    assert value.denominator == 1
+    return value.numerator
+
+
+def value(poly, n):
+    return sum(entry * binomial(n, j) for j, entry in enumerate(poly))
+
+
+def day_sum(tasks, rules, n, task):
+    return sum(days[tasks.index(task)] for days in plans(tasks, rules, n))

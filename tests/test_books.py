@@ -4,9 +4,9 @@ import unittest
 
 from plandays.books import Book
 from plandays.errors import (
-    DoubleName, InvalidName, InvalidNumber, InvalidRule, NoTask, PlanError, SameTask, UnknownTask,
+    DoubleName, InvalidName, InvalidNumber, InvalidRule, NoTask, SameTask, UnknownTask,
 )
-from tests import oracle
+from tests import case, oracle
 
 HUGE = 10 ** 29
 BAD_NAMES = [
@@ -26,14 +26,7 @@ BAD_RULES = [
 ]
 
 
-class Case(unittest.TestCase):
-    def assert_raises(self, error, value, call, *args, **named):
-        with self.assertRaises(PlanError) as told:
-            call(*args, **named)
-        self.assertIs(type(told.exception), error)
-        self.assertEqual(told.exception.value, value)
-        self.assertIs(type(told.exception.value), type(value))
-
+class Case(case.Case):
     def assert_book(self, book, tasks, rules):
         self.assertIsInstance(book, Book)
         self.assertEqual(book.tasks, tasks)

@@ -24,12 +24,27 @@ CLASSES = {
             "__and__": None, "__len__": None, "__eq__": None,
         },
     },
+    "counted": {
+        "Counted": {
+            "__init__": ["firsts", "poly"], "of": ["book"], "__getitem__": None, "__add__": None, "__sub__": None,
+            "__mul__": None, "__rshift__": None, "__eq__": None,
+        },
+    },
 }
-PROPERTIES = {"Book": ["tasks", "rules"]}
+PROPERTIES = {"books": {"Book": ["tasks", "rules"]}, "counted": {"Counted": ["begin", "firsts", "poly"]}}
+CLASS_METHODS = {"counted": {"Counted": ["of"]}}
 FUNCTIONS = {
     "patterns": {
         "patterns": ["book"], "pattern_of": ["book", "n", "plan"], "plans_with": ["pattern", "n"],
         "judge_patterns": ["book", "told"],
+    },
+    "counts": {
+        "count": ["book", "n"], "polynomial": ["book"], "least_days": ["book"], "value_at": ["poly", "n"],
+        "product": ["one", "other"], "same_number": ["one", "other"],
+    },
+    "means": {
+        "day_sums": ["book", "task"], "mean": ["book", "n", "task"], "on_day": ["book", "n", "task", "day"],
+        "used": ["book"],
     },
 }
 LIBRARY = {"heapq", "math", "itertools", "collections"}
@@ -59,10 +74,15 @@ class Interface(unittest.TestCase):
                     if wanted is not None:
                         self.assertEqual(arguments(getattr(one, method)), wanted, (title, method))
 
-    def test_properties(self):
-        for title, names in PROPERTIES.items():
-            for name in names:
-                self.assertIsInstance(vars(getattr(module("books"), title))[name], property)
+    def assert_decorated(self, listed, kind):
+        for name, classes in listed.items():
+            for title, methods in classes.items():
+                for method in methods:
+                    self.assertIsInstance(vars(getattr(module(name), title))[method], kind, (title, method))
+
+    def test_properties_and_class_methods(self):
+        self.assert_decorated(PROPERTIES, property)
+        self.assert_decorated(CLASS_METHODS, classmethod)
 
     def test_functions_and_their_arguments(self):
         for name, functions in FUNCTIONS.items():

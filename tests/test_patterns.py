@@ -7,30 +7,7 @@ from plandays.books import Book
 from plandays.errors import InvalidPlan, PlanError
 from plandays.patterns import judge_patterns, pattern_of, patterns, plans_with
 from tests import oracle
-
-HUGE = 10 ** 29
-TASKS = ["a", "b", "c", "d"]
-RULES = [
-    [("before", "a", "b"), ("before", "b", "c"), ("upto", "c", "d")],
-    [("next", "a", "b"), ("next", "b", "c"), ("last", "c"), ("far", "a", "d")],
-    [("apart", "a", "b"), ("apart", "b", "c"), ("apart", "a", "c"), ("first", "d")],
-    [("same", "a", "b"), ("far", "b", "c"), ("upto", "d", "c"), ("first", "a"), ("last", "c"), ("apart", "b", "d")],
-    [("far", "a", "b"), ("far", "b", "c"), ("far", "c", "d")],
-    [("upto", "a", "b"), ("upto", "b", "c"), ("upto", "c", "a"), ("before", "d", "a")],
-    [("first", "a"), ("last", "a")],
-]
-CONTRADICTIONS = [
-    (2, [("before", "a", "b"), ("before", "b", "a")]),
-    (2, [("same", "a", "b"), ("apart", "a", "b")]),
-    (2, [("far", "a", "b"), ("next", "a", "b")]),
-    (3, [("upto", "a", "b"), ("upto", "b", "c"), ("before", "c", "a")]),
-    (2, [("first", "a"), ("before", "b", "a")]),
-    (4, [("next", "a", "b"), ("next", "b", "c"), ("next", "a", "c")]),
-]
-
-
-def with_tasks(many, rules):
-    return Book(TASKS[:many], rules)
+from tests.samples import CONTRADICTIONS, HUGE, RULES, TASKS, with_tasks
 
 
 def total(book, n):
