@@ -33,7 +33,7 @@ def _check_rule(rule, tasks):
         raise SameTask(rule[1])
 
 
-def _is_kept(rule, n, days):
+def is_kept(rule, n, days):
     """True if a rule is kept for n days; `days` is a dict from the tasks to their days."""
     kind = rule[0]
     day = days[rule[1]]
@@ -90,7 +90,7 @@ class Book:
         if len(plan) != len(self._tasks) or not all([1 <= day <= n for day in plan]):
             return False
         days = dict(zip(self._tasks, plan))
-        return all([_is_kept(rule, n, days) for rule in self._rules])
+        return all([is_kept(rule, n, days) for rule in self._rules])
 
     def with_rules(self, rules):
         """The book with more rules behind its own."""

@@ -22,7 +22,7 @@ def without_zeros(poly):
     return poly[:many]
 
 
-def _differences(values):
+def differences_of(values):
     """The first value, the first difference of two neighbours, the first difference of two of these, and so on."""
     found = []
     row = values
@@ -45,7 +45,7 @@ def _one_earlier(differences):
 def polynomial_through(begin, values):
     """The polynomial with at most as many entries as values that has these values from `begin` on."""
     # The entries of a polynomial are its differences at 0.
-    entries = _differences(values)
+    entries = differences_of(values)
     for _ in range(begin):
         entries = _one_earlier(entries)
     return without_zeros(entries)

@@ -17,7 +17,7 @@ def freedom_of(pattern):
     return start + steps.count(2) + end
 
 
-def _least_plan(pattern):
+def least_plan(pattern):
     """The only list of days that has a pattern for as many days as its length."""
     start, groups, steps, _ = pattern
     plan = [0] * sum([len(group) for group in groups])
@@ -30,9 +30,9 @@ def _least_plan(pattern):
     return plan
 
 
-def _is_good(book, pattern):
+def is_good(book, pattern):
     # All lists of days with one pattern keep the same rules, so the least one speaks for all.
-    return book.keeps(length_of(pattern), _least_plan(pattern))
+    return book.keeps(length_of(pattern), least_plan(pattern))
 
 
 def _with_task(groups, task):
@@ -57,7 +57,7 @@ def _all_steps(many):
     return found
 
 
-def _all_patterns(many):
+def all_patterns(many):
     """All patterns of as many tasks; they have lists in common."""
     return [
         (start, groups, steps, end)
@@ -75,7 +75,7 @@ def _copy_of(pattern):
 
 def patterns(book):
     """The good patterns of a book, in order."""
-    good = [pattern for pattern in _all_patterns(len(book.tasks)) if _is_good(book, pattern)]
+    good = [pattern for pattern in all_patterns(len(book.tasks)) if is_good(book, pattern)]
     return [_copy_of(pattern) for pattern in sorted(good)]
 
 

@@ -1,7 +1,8 @@
 """Plans and patterns by trial: what the tests compare the package with."""
 
 from fractions import Fraction
-from itertools import permutations, product
+from functools import lru_cache
+from itertools import combinations, permutations, product
 
 
 def is_kept(rule, tasks, n, days):
@@ -91,3 +92,46 @@ def value(poly, n):
 
 def day_sum(tasks, rules, n, task):
     return sum(days[tasks.index(task)] for days in plans(tasks, rules, n))
+
+
+def order(n, days):
+    """What lists of days for n days are ordered by: their pattern, then the numbers of the gaps."""
+    filled = sorted(set(days))
+    gaps = [later - day for day, later in zip(filled, filled[1:])]
+    return (pattern(n, days), [filled[0] - 1, *gaps, n - filled[-1]])
+
+
+def plans_in_order(tasks, rules, n):
+    return sorted(plans(tasks, rules, n), key=lambda days: order(n, days))
+
+
+def all_patterns_days(many):
+    """So many days that each pattern of so many tasks has a list of days."""
+    return range(1, 2 * many + 2)
+
+
+def subsets(many):
+    """All sets of the numbers below `many`, by their number of entries, then as lists."""
+    return [list(some) for size in range(many + 1) for some in combinations(range(many), size)]
+
+
+def least_sets(many, fits):
+    """The sets that fit and have no proper subset that does."""
+    fitting = [some for some in subsets(many) if fits(some)]
+    return [some for some in fitting if not any(set(less) < set(some) for less in fitting)]
+
+
+@lru_cache(maxsize=None)
+def samples_of_patterns(many):
+    """For each pattern of so many tasks the tuple (n, days) of a list of days that has it."""
+    found = {}
+    for n in all_patterns_days(many):
+        for days in plans(list(range(many)), [], n):
+            found.setdefault(repr(pattern(n, days)), (n, days))
+    return list(found.values())
+
+
+def truths(tasks, rules):
+    """For the lists of days of all n the tuples that tell which of the rules they keep, each tuple once."""
+    found = samples_of_patterns(len(tasks))
+    return sorted({tuple(is_kept(rule, tasks, n, days) for rule in rules) for n, days in found})

@@ -46,6 +46,15 @@ FUNCTIONS = {
         "day_sums": ["book", "task"], "mean": ["book", "n", "task"], "on_day": ["book", "n", "task", "day"],
         "used": ["book"],
     },
+    "shares": {name: ["book", "a", "b"] for name in ("share", "limit", "majority")},
+    "logic": {
+        "follows": ["book", "rule"], "counter": ["book", "rule"], "least_lots": ["book", "rule"],
+        "quarrels": ["book"], "first_unlike": ["one", "other"], "alike": ["one", "other"],
+    },
+    "learn": {
+        "fitting": ["tasks", "offered", "told"], "parting_days": ["tasks", "offered", "told"],
+        "next_numbers": ["tasks", "offered", "told"], "fitting_all": ["tasks", "offered", "counted"],
+    },
 }
 LIBRARY = {"heapq", "math", "itertools", "collections"}
 
