@@ -16,11 +16,13 @@ def _is_name(text):
 def _check_tasks(tasks):
     if not tasks:
         raise NoTask(0)
-    for place, name in enumerate(tasks):
+    seen = {}
+    for name in tasks:
         if not _is_name(name):
             raise InvalidName(name)
-        if name in tasks[:place]:
+        if name in seen:
             raise DoubleName(name)
+        seen[name] = True
 
 
 def _check_rule(rule, tasks):

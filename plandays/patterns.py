@@ -17,17 +17,21 @@ def freedom_of(pattern):
     return start + steps.count(2) + end
 
 
-def least_plan(pattern):
-    """The only list of days that has a pattern for as many days as its length."""
-    start, groups, steps, _ = pattern
+def plan_by_gaps(groups, gaps):
+    """The list of days with these groups; the gaps lead from day 1 to the first group, and from each to the next."""
     plan = [0] * sum([len(group) for group in groups])
-    day = 1 + start
-    for place, group in enumerate(groups):
-        if place > 0:
-            day += steps[place - 1]
+    day = 1
+    for group, gap in zip(groups, gaps):
+        day += gap
         for task in group:
             plan[task] = day
     return plan
+
+
+def least_plan(pattern):
+    """The only list of days that has a pattern for as many days as its length."""
+    start, groups, steps, _ = pattern
+    return plan_by_gaps(groups, [start, *steps])
 
 
 def is_good(book, pattern):

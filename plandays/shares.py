@@ -41,7 +41,7 @@ def _last_not_above_0(counted):
     while rows[0] <= 0 or min(rows) < 0:
         if rows[0] <= 0:
             last = n
-        rows = [*[row + behind for row, behind in zip(rows, rows[1:])], rows[-1]]
+        rows = [row + behind for row, behind in zip(rows, rows[1:])] + rows[-1:]
         n += 1
     return last
 

@@ -94,11 +94,15 @@ def day_sum(tasks, rules, n, task):
     return sum(days[tasks.index(task)] for days in plans(tasks, rules, n))
 
 
-def order(n, days):
-    """What lists of days for n days are ordered by: their pattern, then the numbers of the gaps."""
+def gaps(n, days):
+    """The numbers by which lists of days with the same pattern are ordered."""
     filled = sorted(set(days))
-    gaps = [later - day for day, later in zip(filled, filled[1:])]
-    return (pattern(n, days), [filled[0] - 1, *gaps, n - filled[-1]])
+    return [filled[0] - 1, *[later - day for day, later in zip(filled, filled[1:])], n - filled[-1]]
+
+
+def order(n, days):
+    """What lists of days for n days are ordered by."""
+    return (pattern(n, days), gaps(n, days))
 
 
 def plans_in_order(tasks, rules, n):

@@ -30,8 +30,18 @@ CLASSES = {
             "__mul__": None, "__rshift__": None, "__eq__": None,
         },
     },
+    "calendars": {
+        "Calendar": {
+            "__init__": ["tasks"], "__call__": ["rule"], "total": ["n"], "say_all": ["rules"], "undo": [],
+            "__len__": None, "__eq__": None,
+        },
+        "SureCalendar": {"__init__": ["tasks"], "__call__": ["rule"], "say_all": ["rules"], "__eq__": None},
+    },
 }
-PROPERTIES = {"books": {"Book": ["tasks", "rules"]}, "counted": {"Counted": ["begin", "firsts", "poly"]}}
+PROPERTIES = {
+    "books": {"Book": ["tasks", "rules"]}, "counted": {"Counted": ["begin", "firsts", "poly"]},
+    "calendars": {"Calendar": ["book"]},
+}
 CLASS_METHODS = {"counted": {"Counted": ["of"]}}
 FUNCTIONS = {
     "patterns": {
@@ -55,6 +65,9 @@ FUNCTIONS = {
         "fitting": ["tasks", "offered", "told"], "parting_days": ["tasks", "offered", "told"],
         "next_numbers": ["tasks", "offered", "told"], "fitting_all": ["tasks", "offered", "counted"],
     },
+    "numbers": {"plan_at": ["book", "n", "k"], "number_of": ["book", "n", "plan"], "plans": ["book", "n"]},
+    "texts": {"show_book": ["book"], "show_pattern": ["pattern"], "show_polynomial": ["poly"]},
+    "readings": {name: ["text"] for name in ("read_book", "read_pattern", "read_polynomial")},
 }
 LIBRARY = {"heapq", "math", "itertools", "collections"}
 
